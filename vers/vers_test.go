@@ -379,7 +379,13 @@ func TestNeeds(t *testing.T) {
 func TestNeedsShort(t *testing.T) {
 	b := oneFile(libc, version(0, 2, v1, 16), version(0, 3, v2, 0)) + oneFile(v2, version(0, 4, v1, 0))
 	for n := range len(b) {
-		at := uint64(n / 16 * 16) // each entry, and each version, stands at a multiple of its size
+		var at uint64 // the first entry's, with its first version's
+		switch {
+		case n >= 48:
+			at = 48 // the second entry's, with its first version's
+		case n >= 32:
+			at = 32 // the second version's own
+		}
 		noNeeds(t, "cut", b[:n], 2, api.ErrShort, at)
 		if n < 48 {
 			noNeeds(t, "cut", b[:n], 1, api.ErrShort, at)
@@ -390,7 +396,13 @@ func TestNeedsShort(t *testing.T) {
 	// Versions that stand behind the second file's are gone through ahead of it.
 	b = fileEntry(1, 1, libc, 48, 16) + fileEntry(1, 1, v2, 16, 0) + version(0, 2, v1, 0) + version(0, 3, v2, 0)
 	wantNeeds(t, "just there", b, 2, Need{3, "libc", "V2", false}, Need{2, "V2", "V1", false})
-	noNeeds(t, "just not there", b[:63], 2, api.ErrShort, 48)
+	noNeeds(t, "just not there", b[:63], 2, api.ErrShort, 0)
+	// The second file's first version stands behind all others.
+	b = fileEntry(1, 2, libc, 32, 16) + fileEntry(1, 1, v2, 48, 0) + version(0, 2, v1, 16) + version(0, 3, v2, 0) + version(0, 4, v1, 0)
+	wantNeeds(t, "just there", b, 2, Need{2, "libc", "V1", false}, Need{3, "libc", "V2", false}, Need{4, "V2", "V1", false})
+	noNeeds(t, "just not there", b[:79], 2, api.ErrShort, 16)
+	noNeeds(t, "nor is the first file's second one", b[:63], 2, api.ErrShort, 48)
+	noNeeds(t, "nor is the first file's first one", b[:47], 2, api.ErrShort, 0)
 }
 
 // P12.3: how far versions and entries are, from 0 on and up to beyond 2^32.
@@ -403,7 +415,9 @@ func TestNeedsFar(t *testing.T) {
 	wantNeeds(t, "a version and an entry 0 away", self, 64, times(64, Need{0, "libc", "", true})...)
 	wantNeeds(t, "entries 0 away", fileEntry(1, 1, libc, 16, 0)+v, 64, times(64, one)...)
 	wantNeeds(t, "versions 0 away", fileEntry(1, 64, libc, 16, 0)+v, 1, times(64, one)...)
-	noNeeds(t, "an entry 1 away", fileEntry(1, 1, libc, 16, 1)+v, 2, api.ErrForm, 1)
+	// What is one byte behind the beginning of an entry of the right form isn't of it.
+	noNeeds(t, "an entry 1 away", fileEntry(1, 1, libc, 16, 1)+v+strings.Repeat("\x00", 1<<25), 2, api.ErrForm, 1)
+	noNeeds(t, "an entry 1 away, and its first version isn't there", fileEntry(1, 1, libc, 16, 1)+v, 2, api.ErrShort, 1)
 	noNeeds(t, "a version 1 away, of which the last byte isn't there", fileEntry(1, 2, libc, 16, 0)+version(0, 2, v1, 1), 1, api.ErrShort, 17)
 	noNeeds(t, "a version 1 away, without a name", fileEntry(1, 2, libc, 16, 0)+version(0, 2, v1, 1)+".", 1, api.ErrName, 17)
 	long := names + strings.Repeat("\x00", 1<<24-len(names)) + "far\x00"
@@ -413,8 +427,8 @@ func TestNeedsFar(t *testing.T) {
 	}
 	for _, far := range []uint32{17, 32, 33, 1 << 16, 1 << 31, farBeyond - 32, farBeyond - 16, farBeyond - 15, farBeyond} {
 		first := fileEntry(1, 1, libc, far, 16) + v
-		noNeeds(t, "a first version too far", first, 1, api.ErrShort, uint64(far))
-		noNeeds(t, "a second file's first version too far", oneFile(libc, v)+first, 2, api.ErrShort, 32+uint64(far))
+		noNeeds(t, "a first version too far", first, 1, api.ErrShort, 0)
+		noNeeds(t, "a second file's first version too far", oneFile(libc, v)+first, 2, api.ErrShort, 32)
 		noNeeds(t, "a second version too far", fileEntry(1, 2, libc, 16, 0)+version(0, 2, v1, far), 1, api.ErrShort, 16+uint64(far))
 		noNeeds(t, "a second entry too far", fileEntry(1, 1, libc, 16, far)+v, 2, api.ErrShort, uint64(far))
 		noNeeds(t, "a third entry too far", oneFile(libc, v)+fileEntry(1, 1, libc, 16, far)+v, 3, api.ErrShort, 32+uint64(far))
@@ -437,16 +451,16 @@ func TestNeedsOrder(t *testing.T) {
 			place, e, at = overlong, api.ErrName, 16
 		}
 		if set&8 != 0 {
-			first, e, at = 1<<20, api.ErrShort, 1<<20
-		}
-		if set&4 != 0 {
 			name, e, at = unended, api.ErrName, 0
 		}
-		if set&2 != 0 {
+		if set&4 != 0 {
 			count, e, at = 0, api.ErrForm, 0
 		}
-		if set&1 != 0 {
+		if set&2 != 0 {
 			form, e, at = 2, api.ErrForm, 0
+		}
+		if set&1 != 0 {
+			first, e, at = 1<<20, api.ErrShort, 0
 		}
 		return fileEntry(form, count, name, first, 32) + version(0, 2, place, 0), e, at
 	}
@@ -474,6 +488,42 @@ func TestNeedsOrder(t *testing.T) {
 	noNeeds(t, "short, and of the wrong form", strings.Repeat("\xff", 15), 1, api.ErrShort, 0)
 	noNeeds(t, "a version that is short, behind one without a name", fileEntry(1, 2, libc, 16, 0)+version(0, 2, unended, 16), 1, api.ErrName, 16)
 	noNeeds(t, "a version without a name, ahead of one that is short", fileEntry(1, 3, libc, 16, 0)+version(0, 2, v1, 16)+version(0, 3, unended, 99), 1, api.ErrName, 32)
+}
+
+// P12.3: a first version that isn't there, of bytes that tell a wrong form, or no name, or nothing else wrong.
+func TestNeedsFirst(t *testing.T) {
+	v := version(0, 2, v1, 0)
+	noNeeds(t, "bytes of a wrong form", "\x00\x10\x00\x00\x01\x00\x04\x00\x02\x00\x00\x00\x001\x00\x00", 1, api.ErrShort, 0)
+	b := "\x01\x00\x01\x00\x00\x00\x00\x00\x10\x00\x00\x01\x00\x02\x00\x00"
+	if got, f := Needs(b, "", 1); f != fail.Of(api.ErrShort) || len(got) != 0 {
+		t.Error("no name:", got, f)
+	}
+	for _, e := range []struct {
+		what        string
+		form, count uint16
+		name        uint32
+		there       api.Errno // where the first version is there
+	}{
+		{"right", 1, 1, libc, api.OK},
+		{"a wrong form", 2, 1, libc, api.ErrForm},
+		{"no version", 1, 0, libc, api.ErrForm},
+		{"no name", 1, 1, unended, api.ErrName},
+		{"all of these", 0, 0, overlong, api.ErrForm},
+	} {
+		b := fileEntry(e.form, e.count, e.name, 16, 32) + v
+		for n := range 16 {
+			noNeeds(t, e.what, b[:16+n], 1, api.ErrShort, 0)
+			noNeeds(t, e.what+", of the second", oneFile(libc, v)+b[:16+n], 2, api.ErrShort, 32)
+		}
+		if e.there == api.OK {
+			wantNeeds(t, e.what, b, 1, Need{2, "libc", "V1", false})
+			continue
+		}
+		noNeeds(t, e.what, b, 1, e.there, 0)
+		noNeeds(t, e.what+", of the second", oneFile(libc, v)+b, 2, e.there, 32)
+	}
+	noNeeds(t, "a first version without a name stays at its own place", oneFile(libc, version(0, 2, unended, 0)), 1, api.ErrName, 16)
+	noNeeds(t, "a second version that isn't there stays at its own place", fileEntry(1, 2, libc, 16, 0)+version(0, 2, v1, 16), 1, api.ErrShort, 32)
 }
 
 // P12.3: how many versions there may be in all, in one file and over several.
@@ -514,9 +564,11 @@ func TestNeedsLimitOrder(t *testing.T) {
 	full := fileEntry(1, 64, libc, 16, at) + right
 	noNeeds(t, "64, and a file that isn't there", full, 2, api.ErrShort, at)
 	noNeeds(t, "64, and a file of the wrong form", full+fileEntry(2, 1, libc, 16, 0)+v, 2, api.ErrForm, at)
-	noNeeds(t, "64, and a file without versions", full+fileEntry(1, 0, libc, 16, 0), 2, api.ErrForm, at)
+	noNeeds(t, "64, and a file without versions", full+fileEntry(1, 0, libc, 16, 0)+v, 2, api.ErrForm, at)
+	noNeeds(t, "64, and a file without versions, where none is, either", full+fileEntry(1, 0, libc, 16, 0), 2, api.ErrShort, at)
 	noNeeds(t, "64, and a file without a name", full+fileEntry(1, 1, unended, 16, 0)+v, 2, api.ErrName, at)
-	noNeeds(t, "64, and a file whose version isn't there", full+fileEntry(1, 1, libc, 16, 0), 2, api.ErrShort, at+16)
+	noNeeds(t, "64, and a file whose version isn't there", full+fileEntry(1, 1, libc, 16, 0), 2, api.ErrShort, at)
+	noNeeds(t, "64, and a file whose second version isn't there", full+fileEntry(1, 2, libc, 16, 0)+v, 2, api.ErrLimit, at+16)
 	noNeeds(t, "64, and a file whose version has no name", full+fileEntry(1, 1, libc, 16, 0)+version(0, 2, overlong, 0), 2, api.ErrName, at+16)
 	noNeeds(t, "64, and a file with a version", full+fileEntry(1, 1, libc, 16, 0)+v, 2, api.ErrLimit, at+16)
 }
@@ -700,6 +752,9 @@ func needsRule(b, names, file string, at, left, next, n int, l []Need) ([]Need, 
 			return wrong(6)
 		}
 		return needsRule(b, names, file, at+add(e[12:16]), left-1, next, n, l)
+	}
+	if at+add(e[8:12])+16 > len(b) {
+		return wrong(2)
 	}
 	if e[0] != 1 || e[1] != 0 || e[2:4] == "\x00\x00" {
 		return wrong(4)
