@@ -115,20 +115,13 @@ func (a again) wantHeader() {
 	if a.file[:64] != want {
 		a.fail("header", a.file[:64])
 	}
-	if l := a.image.Segments; a.file[64+56*len(l):l[0].Off] != strings.Repeat("\x00", int(l[0].Off)-64-56*len(l)) {
-		a.fail("behind the program headers")
-	}
 }
 
 // P16.1: each part is where it begins, or would begin.
 func (a again) wantPlan() {
 	a.t.Helper()
 	s, p := a.spec, a.plan
-	tables := a.image.Segments[0]
-	if at := up(64 + 56*uint64(len(a.image.Segments))); tables.Addr != at {
-		a.fail("the tables' address", tables.Addr, at)
-	}
-	code := up(tables.Addr + tables.Mem)
+	code := up(a.image.Segments[0].Mem)
 	stubs := code + size(s.Code)
 	arrays := up(stubs + 12*uint64(len(s.Slots)))
 	slots := up(arrays + 8*uint64(len(s.Init)+len(s.Fini)) + 16*uint64(len(a.table)+1))
@@ -149,7 +142,7 @@ func (a again) wantLoads() {
 	dynamic := 16 * uint64(len(a.table)+1)
 	arrays := 8 * uint64(len(s.Init)+len(s.Fini))
 	slots := uint64(len(s.Slots))
-	want := []head.Segment{{Perm: 4, Addr: first.Addr, Mem: first.Mem}}
+	want := []head.Segment{{Perm: 4, Addr: 0, Mem: first.Mem}}
 	if n := size(s.Code) + 12*slots; n > 0 {
 		want = append(want, head.Segment{Perm: 5, Addr: p.Code, Mem: n})
 	}
@@ -158,20 +151,13 @@ func (a again) wantLoads() {
 		want = append(want, head.Segment{Perm: 6, Addr: p.Slots, Mem: n})
 	}
 	var got []head.Segment
-	var end uint64
 	for g := range a.image.Of(head.Load) {
-		if g.File != g.Mem {
-			a.fail("not all in the file", g)
-		}
-		end = g.Off + g.File
 		got = append(got, head.Segment{Perm: g.Perm, Addr: g.Addr, Mem: g.Mem})
 	}
 	if !slices.Equal(got, want) {
 		a.fail("Loads", got, want)
 	}
-	if end != size(a.file) {
-		a.fail("end", end, len(a.file))
-	}
+	a.wantPlaces()
 	for page := uint64(0); page < uint64(a.image.Pages()+2)*256; page += 256 {
 		a.wantPage(page, want)
 	}
@@ -180,6 +166,30 @@ func (a again) wantLoads() {
 	}
 	if l := slices.Collect(a.image.Of(head.Relro)); len(l) != 1 || len(a.image.Segments) != len(want)+2 {
 		a.fail("segments", a.image.Segments)
+	}
+}
+
+// wantPlaces: each Load is all in the file, behind the headers and the Loads ahead of it, with noughts between; each segment's place
+// there is alike its address, modulo a page; the file ends where the last Load's bytes do.
+func (a again) wantPlaces() {
+	a.t.Helper()
+	end := 64 + 56*uint64(len(a.image.Segments))
+	for g := range a.image.Of(head.Load) {
+		if g.File != g.Mem || g.Off < end {
+			a.fail("place in the file", g, end)
+		}
+		if strings.Trim(a.file[end:g.Off], "\x00") != "" {
+			a.fail("ahead of a Load", g, a.file[end:g.Off])
+		}
+		end = g.Off + g.File
+	}
+	if end != size(a.file) {
+		a.fail("end", end, len(a.file))
+	}
+	for _, g := range a.image.Segments {
+		if g.Off%256 != g.Addr%256 {
+			a.fail("not alike", g)
+		}
 	}
 }
 

@@ -25,8 +25,12 @@ const (
 	fileVersion  = 1
 )
 
-// tablesAt: the first Load's address, the next page behind the headers: there are four to six program headers.
-const tablesAt = 2 * api.Page
+// tablesAt: the first Load's address. The headers are in no Load, so no page of the image stands ahead of it.
+const tablesAt = 0
+
+// loadsAt: where the Loads' bytes begin in the file, behind the headers: there are four to six program headers. It is a multiple
+// of Page, since a program header tells that a place in the file and its address are alike modulo Page.
+const loadsAt = 2 * api.Page
 
 // parts of a file, from Load to Load.
 type parts struct {
@@ -43,6 +47,9 @@ type load struct {
 	at    uint64
 	bytes string
 }
+
+// place in the file of what is at the load's address.
+func (g load) place() uint64 { return loadsAt + g.at }
 
 // made: the parts of a spec's file, as they are by a plan.
 func made(s Spec, o order, p Plan) parts {
@@ -75,7 +82,7 @@ func (x parts) loads(p Plan) []load {
 	return l
 }
 
-// file of the parts: each Load stands in it at the place that is its address.
+// file of the parts: the Loads stand in it as far from one another as in the image.
 func file(p Plan, x parts) string {
 	loads := x.loads(p)
 	heads := headers(loads, p, x)
@@ -85,7 +92,7 @@ func file(p Plan, x parts) string {
 		b.WriteString(segmentHeader(h))
 	}
 	for _, g := range loads {
-		b.WriteString(strings.Repeat("\x00", int(g.at)-b.Len()))
+		b.WriteString(strings.Repeat("\x00", int(g.place())-b.Len()))
 		b.WriteString(g.bytes)
 	}
 	return b.String()
@@ -107,7 +114,7 @@ func headers(loads []load, p Plan, x parts) []head.Segment {
 // segment of a kind that has what a Load has.
 func segment(kind uint32, g load) head.Segment {
 	n := length(g.bytes)
-	return head.Segment{Kind: kind, Perm: g.perm, Off: g.at, Addr: g.at, File: n, Mem: n}
+	return head.Segment{Kind: kind, Perm: g.perm, Off: g.place(), Addr: g.at, File: n, Mem: n}
 }
 
 // header of a file with so many program headers.

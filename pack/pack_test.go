@@ -339,14 +339,59 @@ func TestSlotsAndArrays(t *testing.T) {
 	}
 }
 
-// P16.1: a plan, number by number.
-func TestPlan(t *testing.T) {
-	_, p, _ := Build(Spec{})
-	if p.Code%256 != 0 || p.Stubs != p.Code || p.Arrays != p.Code || p.Slots != p.Code+256 || p.Data != p.Slots || len(p.Index) != 0 {
-		t.Errorf("empty: %+v", p)
+// P16.1, P16.2: at which address each Load begins, and each part is: the tables at 0, and each further Load with the page behind
+// the Load ahead of it.
+func TestLoadsBegin(t *testing.T) {
+	undefined := []Symbol{{Name: "f", Bind: 1}}
+	for _, c := range []struct {
+		what  string
+		spec  Spec
+		loads []uint64
+		plan  Plan
+	}{
+		{"empty", Spec{}, []uint64{0, 256},
+			Plan{Code: 256, Stubs: 256, Arrays: 256, Slots: 512, Data: 512}},
+		{"code", Spec{Code: code(8)}, []uint64{0, 256, 512},
+			Plan{Code: 256, Stubs: 264, Arrays: 512, Slots: 768, Data: 768}},
+		{"a page of code", Spec{Code: code(256)}, []uint64{0, 256, 512},
+			Plan{Code: 256, Stubs: 512, Arrays: 512, Slots: 768, Data: 768}},
+		{"the most code", Spec{Code: code(4096)}, []uint64{0, 256, 4352},
+			Plan{Code: 256, Stubs: 4352, Arrays: 4352, Slots: 4608, Data: 4608}},
+		{"data", Spec{Data: data(8)}, []uint64{0, 256, 512},
+			Plan{Code: 256, Stubs: 256, Arrays: 256, Slots: 512, Data: 512}},
+		{"code and data", Spec{Code: code(260), Data: data(8)}, []uint64{0, 256, 768, 1024},
+			Plan{Code: 256, Stubs: 516, Arrays: 768, Slots: 1024, Data: 1024}},
+		{"a slot alone", Spec{Symbols: undefined, Slots: []int{0}}, []uint64{0, 256, 512, 768},
+			Plan{Code: 256, Stubs: 256, Arrays: 512, Slots: 768, Data: 776}},
+		// Of either hash table the tables are more than 29 pages, and at most 30.
+		{"greatest", greatest(), []uint64{0, 7680, 12032, 12800},
+			Plan{Code: 7680, Stubs: 11776, Arrays: 12032, Slots: 12800, Data: 12960}},
+	} {
+		for _, s := range both(c.spec) {
+			a := built(t, s)
+			var loads []uint64
+			for g := range a.image.Of(head.Load) {
+				loads = append(loads, g.Addr)
+			}
+			if !slices.Equal(loads, c.loads) {
+				t.Errorf("%s: Loads at %d, not %d", c.what, loads, c.loads)
+			}
+			if perm, ok := a.image.Perm(0); perm != 4 || !ok {
+				t.Errorf("%s: page 0: %d %t", c.what, perm, ok)
+			}
+			got := a.plan
+			got.Index = nil
+			if !reflect.DeepEqual(got, c.plan) {
+				t.Errorf("%s: %+v, not %+v", c.what, got, c.plan)
+			}
+		}
 	}
+}
+
+// P16.1: how far the parts of a plan are from one another.
+func TestPlan(t *testing.T) {
 	s := plain()
-	_, p, _ = Build(s)
+	_, p, _ := Build(s)
 	if p.Stubs != p.Code+16 || p.Arrays != p.Code+256 || p.Slots <= p.Arrays || p.Slots%256 != 0 || p.Data != p.Slots+24 {
 		t.Errorf("plain: %+v", p)
 	}
